@@ -1,0 +1,1 @@
+"""Alarms told once."""
