@@ -4,6 +4,7 @@ from toldonce.watch import answers
 
 SPAN = 16777216
 LAST_TIME = 2 ** 40
+WIDEST_VALUE = 2 ** 40
 WIDEST = 2 ** 50
 WORD = 2 ** 32 - 1
 LONG = 2 ** 64 - 1
@@ -30,6 +31,39 @@ def silence(rule=ANY, group=ANY, start=0, till=1):
 
 def end(k=0):
     return [4, k]
+
+
+def sample(series=0, value=0):
+    return [5, series, value]
+
+
+def tick(t=0):
+    return [6, t]
+
+
+def note(k=0):
+    return [7, k]
+
+
+def phase(rule=0, series=0):
+    return [8, rule, series]
+
+
+def value(rule=0, series=0):
+    return [9, rule, series]
+
+
+def lamp(**parts):
+    """A rule that is so while the last measurement is above 0, however long ago that was, and else over."""
+    return rule(**{"window": SPAN, **parts})
+
+
+def on(series=0):
+    return sample(series, 1)
+
+
+def off(series=0):
+    return sample(series, 0)
 
 
 def line(*calls):
@@ -62,3 +96,42 @@ def after_begin(*calls):
     if given[0] != 0:
         raise AssertionError(f"begin was answered {given[0]}")
     return given[1:]
+
+
+def rows(*calls, wait=0, again=0):
+    """The answers to a line behind a begin that is answered 0, a list for each call but that begin."""
+    given = ask(begin(wait, again), *calls)
+    if given[0] != [0]:
+        raise AssertionError(f"begin was answered {given[0]}")
+    return given[1:]
+
+
+def last(*calls, wait=0, again=0):
+    """The answer to the last call of such a line."""
+    return rows(*calls, wait=wait, again=again)[-1]
+
+
+def told(*calls, wait=0, again=0):
+    """What the ticks of such a line tell: for each tick a list of its notes, each (group, again, new, over)."""
+    asked = []
+    for call in calls:
+        asked.append(call)
+        if call[0] == 6:
+            asked.extend(note(k) for k in range(17))
+    ticks = []
+    for call, row in zip(asked, rows(*asked, wait=wait, again=again)):
+        if call[0] == 6:
+            ticks.append([])
+            counted = row
+        if call[0] == 7 and row != [0]:
+            ticks[-1].append(read_note(row))
+        if call[0] == 7 and call[1] == 16 and counted != [len(ticks[-1])]:
+            raise AssertionError(f"tick was answered {counted}, and told {ticks[-1]}")
+    return ticks
+
+
+def read_note(row):
+    pairs = list(zip(row[5::2], row[6::2]))
+    if row[0] != 1 or len(row) != 5 + 2 * (row[3] + row[4]):
+        raise AssertionError(f"not a note: {row}")
+    return (row[1], row[2], pairs[:row[3]], pairs[row[3]:])

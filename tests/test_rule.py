@@ -126,7 +126,8 @@ class Rule(unittest.TestCase):
     def test_wrong_comes_before_full(self):
         wrong = [
             rule(kind=32), rule(what=6), rule(above=2), rule(window=0), rule(window=SPAN + 1), rule(hold=SPAN + 1),
-            rule(level=4), rule(bound=WIDEST + 1), rule(over=-WIDEST - 1), rule(above=1, over=1), rule(above=0, over=-1),
+            rule(level=4), rule(bound=WIDEST + 1), rule(over=-WIDEST - 1), rule(above=1, over=1),
+            rule(above=0, over=-1),
         ]
         given = after_begin(*[rule()] * 32, *wrong, rule())
         self.assertEqual(given[32:], [-22] * len(wrong) + [-28])

@@ -1,34 +1,13 @@
 """The calls that set an object up: begin, series, rule, silence, end."""
 
-MISSING = -2
-WRONG = -22
-FULL = -28
-
-ANY = 255
-
-MOST_SERIES = 64
-MOST_RULES = 32
-MOST_SILENCES = 32
-
-LAST_KIND = 31
-LAST_GROUP = 15
-LAST_WHAT = 5
-LAST_LEVEL = 3
-
-# 2 to the 24th, 40th and 50th, written out as a file's top holds plain values alone.
-LONGEST_SPAN = 16777216
-LAST_TIME = 1099511627776
-WIDEST_BOUND = 1125899906842624
+from toldonce.limits import ANY, FULL, LAST_GROUP, LAST_KIND, LAST_LEVEL, LAST_TIME, LAST_WHAT, LONGEST_SPAN
+from toldonce.limits import MISSING, MOST_RULES, MOST_SERIES, MOST_SILENCES, WIDEST_BOUND, WRONG
 
 
 def begin(state, wait, again):
     if wait > LONGEST_SPAN or again > LONGEST_SPAN:
         return WRONG
-    state.wait = wait
-    state.again = again
-    state.series = []
-    state.rules = []
-    state.silences = []
+    state.start_over(wait, again)
     return 0
 
 
